@@ -93,8 +93,8 @@ func TestStatus(t *testing.T) {
 }
 
 func TestBalance(t *testing.T) {
-	f := formula(4, []int{1, 2}, []int{-1, 2}, []int{-4, 0, big}, []int{1, 1}, []int{9})
-	for v, want := range map[int][2]int{1: {3, 1}, 2: {2, 0}, 3: {0, 0}, 4: {0, 1}, 9: {1, 0}, 0: {}, -1: {}, big: {}, math.MinInt: {}} {
+	f := formula(4, []int{1, 2}, []int{-1, 2}, []int{-4, 0, big}, []int{1, 1}, []int{9, api.MaxVars})
+	for v, want := range map[int][2]int{1: {3, 1}, api.MaxVars: {1, 0}, 2: {2, 0}, 3: {0, 0}, 4: {0, 1}, 9: {1, 0}, 0: {}, -1: {}, big: {}, math.MinInt: {}} {
 		if yes, no := cnf.Balance(f, v); yes != want[0] || no != want[1] {
 			t.Errorf("Balance of %d: %d, %d", v, yes, no)
 		}
@@ -106,7 +106,7 @@ func TestPure(t *testing.T) {
 		f    api.Formula
 		want []int
 	}{
-		{formula(2, []int{1, 2}, []int{-1, 2}), []int{2}},
+		{formula(2, []int{1, 2}, []int{-1, 2}), []int{2}}, {formula(2, []int{-1, 2}, []int{-2}), []int{-1}},
 		{formula(4, []int{4, -3}, []int{-3, 1}, []int{-1}), []int{-3, 4}},
 		{formula(3, []int{4, -3}), []int{-3}}, {formula(0, []int{1}), nil}, {formula(-5, []int{1}), nil},
 		{formula(math.MaxInt, []int{-api.MaxVars, 0, big}), []int{-api.MaxVars}}, {formula(9), nil},

@@ -140,6 +140,26 @@ func TestTop(t *testing.T) {
 	}
 }
 
+// TestTies: halving, also by a Bump, makes scores the same that were not; then the lesser number comes first.
+func TestTies(t *testing.T) {
+	for _, bump := range []bool{true, false} {
+		h, _ := heap.New(13)
+		for v := 2; v <= 13; v++ {
+			h.Bump(v, v)
+		}
+		if bump {
+			h.Bump(1, heap.Top)
+			h.Bump(1, 1)
+		} else {
+			h.Bump(1, 100)
+			h.Halve()
+		}
+		if got := all(h); !slices.Equal(got, []int{1, 12, 13, 10, 11, 8, 9, 6, 7, 4, 5, 2, 3}) {
+			t.Error(bump, got)
+		}
+	}
+}
+
 // TestKeeps holds a heap against a list of scores, through many calls.
 func TestKeeps(t *testing.T) {
 	const vars = 20

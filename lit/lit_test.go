@@ -93,13 +93,13 @@ func TestBack(t *testing.T) {
 }
 
 func TestOf(t *testing.T) {
-	l := []int{4, -2, 3, -3, 0, 4, api.MaxVars + 1, math.MinInt}
-	for v, want := range map[int]int{4: 1, 2: -1, 3: 2, 1: 0, 0: 0, -3: 0, -2: 0, -4: 0, api.MaxVars + 1: 0, math.MinInt: 0} {
+	l := []int{4, -2, 3, -3, 0, 4, -api.MaxVars, api.MaxVars + 1, math.MinInt}
+	for v, want := range map[int]int{4: 1, 2: -1, 3: 2, 1: 0, api.MaxVars: -1, 0: 0, -3: 0, -2: 0, -4: 0, api.MaxVars + 1: 0, math.MinInt: 0} {
 		if got := lit.Of(l, v); got != want {
 			t.Errorf("Of %d: %d, not %d", v, got, want)
 		}
 	}
-	if lit.Of(nil, 1) != 0 || lit.Of([]int{-3, 3}, 3) != 2 {
+	if lit.Of(nil, 1) != 0 || lit.Of([]int{1}, 1) != 1 || lit.Of([]int{-3, 3}, 3) != 2 {
 		t.Error("Of none, or of both, the opposite first")
 	}
 }

@@ -161,6 +161,7 @@ func TestCheck(t *testing.T) {
 		{formula(1, []int{1}, []int{-1}), []api.Step{add(3, nil, 1, 2)}, 1, api.OK},
 		{f, []api.Step{add(5, []int{2}, 1, 2), del(5, 1, 2), add(6, nil, 5, 3, 4)}, 3, api.OK},
 		{f, []api.Step{add(5, []int{2}, 1, 2), add(6, nil, 5, 3, 4), del(0, 6)}, 3, api.OK},
+		{f, []api.Step{add(5, []int{2}, 1, 2), add(6, nil, 5, 3, 4), add(7, []int{3}, 6), del(0, 6)}, 4, api.OK},
 		{f, []api.Step{add(5, []int{2}, 1, 2), add(6, nil, 5, 3, 4), del(0, 7)}, 2, api.ErrId},
 		{f, []api.Step{add(5, []int{2}, 1, 2), add(6, nil, 3, 4)}, 1, api.ErrHint},
 		{f, []api.Step{add(5, []int{2}, 1, 2)}, 1, api.ErrEnd}, {f, nil, 0, api.ErrEnd}, {formula(1, nil), nil, 0, api.OK},

@@ -58,7 +58,7 @@ func TestFirstAndSum(t *testing.T) {
 			t.Fatal(i)
 		}
 	}
-	if luby.Sum(100000) != sum {
+	if len(luby.First(100000)) != 100000 || luby.Sum(100000) != sum {
 		t.Error(luby.Sum(100000), sum)
 	}
 	for _, n := range []int{0, -1, 100001, math.MaxInt, math.MinInt} {

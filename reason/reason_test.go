@@ -116,6 +116,20 @@ func TestWrongReasons(t *testing.T) {
 		reason.Hints(a, l, nil, conflict)
 	}
 	l.Back(0)
+	l.Imply(2, at[0])
+	l.Imply(1, at[0])
+	l.Imply(3, at[1])
+	l.Imply(4, at[2])
+	for _, conflict := range []int{at[0], at[1], at[2], at[3]} {
+		reason.Hints(a, l, nil, conflict)
+	}
+	a, l, at = put([]int{1, -2}, []int{2, -1}, []int{-1, -2})
+	l.Decide(5)
+	l.Imply(1, at[0])
+	l.Imply(2, at[1])
+	reason.Learn(a, l, at[2])
+	reason.Hints(a, l, nil, at[2])
+	a, l, at = put([]int{1, 2})
 	l.Decide(-1)
 	l.Imply(-2, 1<<40)
 	if _, e := reason.Learn(a, l, at[0]); e != api.OK {
@@ -165,7 +179,7 @@ func TestAsserts(t *testing.T) {
 }
 
 func TestHints(t *testing.T) {
-	a, l, at := put([]int{-1, -2, 3}, []int{-3, 4}, []int{-4, -5, -3}, []int{5}, []int{-1, -2}, []int{7, -5})
+	a, l, at := put([]int{-1, -2, 3}, []int{-3, 4}, []int{-4, -5, -3}, []int{5}, []int{-1, -2}, []int{7, -5}, []int{-1, -5})
 	l.Imply(5, at[3])
 	l.Imply(7, at[5])
 	l.Decide(1)
@@ -180,7 +194,7 @@ func TestHints(t *testing.T) {
 	}{
 		{[]int{-3}, at[2], []int{at[3], at[1], at[2]}, true}, {[]int{-1, -2}, at[2], []int{at[3], at[0], at[1], at[2]}, true},
 		{[]int{-3, -4, -5}, at[2], []int{at[2]}, true}, {[]int{-3, -5}, at[2], []int{at[1], at[2]}, true},
-		{[]int{-1}, at[2], nil, false}, {nil, at[2], nil, false}, {[]int{-1, -2}, 1, nil, false}, {[]int{-1, -2}, -1, nil, false},
+		{[]int{-1}, at[2], nil, false}, {nil, at[2], nil, false}, {nil, at[6], nil, false}, {[]int{-1}, at[6], []int{at[3], at[6]}, true}, {[]int{-1, -2}, 1, nil, false}, {[]int{-1, -2}, -1, nil, false},
 		{[]int{-1, -2}, at[1], nil, false}, {[]int{-1, -2}, at[4], []int{at[4]}, true}, {[]int{0, -3, 9}, at[2], []int{at[3], at[1], at[2]}, true},
 	} {
 		h, ok := reason.Hints(a, l, x.lits, x.conflict)

@@ -88,7 +88,7 @@ func TestLeftOver(t *testing.T) {
 
 // TestWrongReasons: of reasons that stand in a ring, or behind, nothing is left over.
 func TestWrongReasons(t *testing.T) {
-	a, l, at := put([]int{-1, 2}, []int{-2, 1}, []int{3, -4}, []int{-4, 5}, []int{-5, -6, 7}, []int{6, -6})
+	a, l, at := put([]int{-1, 2}, []int{-2, 1}, []int{3, -4}, []int{-4, 5}, []int{-5, -6, 7}, []int{6, -6}, []int{7, 1})
 	l.Decide(8)
 	l.Imply(1, at[1])
 	l.Imply(2, at[0])
@@ -96,13 +96,14 @@ func TestWrongReasons(t *testing.T) {
 	l.Imply(4, 1<<40)
 	l.Imply(5, at[2])
 	l.Imply(6, at[5])
+	l.Imply(7, at[6])
 	for i, x := range []struct {
 		lits       []int
 		l          int
 		self, deep bool
 	}{
 		{nil, -1, false, false}, {nil, -2, false, false}, {[]int{-2}, -1, false, false}, {[]int{-1}, -2, true, true}, {[]int{-4}, -3, false, false},
-		{[]int{-8}, -4, false, false}, {[]int{-4}, -5, false, false}, {[]int{-6}, -6, false, false}, {[]int{6}, -6, false, false},
+		{[]int{1}, -7, false, false}, {[]int{-1}, -7, false, false}, {[]int{-8}, -4, false, false}, {[]int{-4}, -5, false, false}, {[]int{-6}, -6, false, false}, {[]int{6}, -6, false, false},
 	} {
 		if self, deep := shorten.Self(a, l, x.lits, x.l), shorten.Deep(a, l, x.lits, x.l); self != x.self || deep != x.deep {
 			t.Errorf("%d: %t, %t", i, self, deep)

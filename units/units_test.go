@@ -93,8 +93,8 @@ func TestRefutes(t *testing.T) {
 			t.Errorf("%d: not %t", i, x.want)
 		}
 	}
-	if !units.Refutes([][]int{{1}, {-1}}, nil) {
-		t.Error("the empty clause does not follow of two that are against one another")
+	if !units.Refutes([][]int{{1}}, []int{1}) || units.Refutes([][]int{{1}}, []int{-1}) || !units.Refutes([][]int{{1}, {-1}}, nil) {
+		t.Error("a clause does not follow of itself, or the empty one of two that are against one another")
 	}
 }
 
