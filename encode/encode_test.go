@@ -134,6 +134,16 @@ func TestSays(t *testing.T) {
 			t.Errorf("%d: of other truths", i)
 		}
 	}
+	one := api.Object{States: 1, Kinds: 1}
+	for n, want := range map[int]bool{29: true, 30: false} {
+		order := make([]int, n)
+		for i := range order {
+			order[i] = i
+		}
+		if got := encode.Says(one, pendings(n), truths(numbering.Size{Ops: n, States: 1}, order, make([]bool, n), make([]int, n+1))); got != want {
+			t.Error(n, got)
+		}
+	}
 	set := flag()
 	set.Rows[3].Result = 2
 	if encode.Says(set, l, truths(s, []int{0, 1, 2}, []bool{true, true, true}, []int{0, 1, 1, 1})) {

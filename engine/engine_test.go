@@ -380,9 +380,8 @@ func TestAgrees(t *testing.T) {
 	}
 }
 
-// TestForgets: a long search forgets clauses, and its proof is still right.
-func TestForgets(t *testing.T) {
-	const holes = 7
+// pigeons tells that each of some pigeons has a hole of its own, there being one hole less.
+func pigeons(holes int) api.Formula {
 	f := formula(holes * (holes + 1))
 	at := func(p, h int) int { return p*holes + h + 1 }
 	for p := range holes + 1 {
@@ -395,33 +394,45 @@ func TestForgets(t *testing.T) {
 		}
 		f.Clauses = append(f.Clauses, row)
 	}
-	e, _ := engine.New(f, api.Tune{Keep: 1})
-	gone, learnt := 0, 0
-	for !e.Over() {
-		if !e.Propagate() {
-			e.Decide()
-			continue
-		}
-		if n := e.Reduce(); n > 0 && learnt <= 100 {
-			t.Fatal(n, learnt)
-		} else {
+	return f
+}
+
+// TestForgets: long searches forget clauses, and their proofs are still right.
+func TestForgets(t *testing.T) {
+	f := pigeons(7)
+	for _, keep := range []int{1, 2300} {
+		e, _ := engine.New(f, api.Tune{Keep: keep, Decay: 5})
+		gone, learnt := 0, 0
+		for !e.Over() {
+			if !e.Propagate() {
+				e.Decide()
+				continue
+			}
+			steps := -1
+			if learnt%50 == 0 {
+				steps = len(e.Proof())
+			}
+			n := e.Reduce()
+			if n > 0 && learnt <= 100 || n == 0 && steps >= 0 && len(e.Proof()) != steps {
+				t.Fatal(n, learnt)
+			}
 			gone += n
 			learnt -= n
+			e.Resolve()
+			learnt++
 		}
-		e.Resolve()
-		learnt++
-	}
-	p := e.Proof()
-	if at, err := lrat.Check(f, p); err != api.OK || at != len(p) {
-		t.Error(at, err)
-	}
-	for _, s := range p {
-		if s.Kind == api.StepDelete {
-			gone -= len(s.Hints)
+		p := e.Proof()
+		if at, err := lrat.Check(f, p); err != api.OK || at != len(p) {
+			t.Error(keep, at, err)
 		}
-	}
-	if gone != 0 {
-		t.Error("forgotten, and not told:", gone)
+		for _, s := range p {
+			if s.Kind == api.StepDelete {
+				gone -= len(s.Hints)
+			}
+		}
+		if gone != 0 {
+			t.Error("forgotten, and not told:", keep, gone)
+		}
 	}
 }
 
@@ -435,8 +446,8 @@ func TestProof(t *testing.T) {
 		}
 	}
 	p := e.Proof()
-	p[0].Lits, p[0].Hints[0], p[1].Kind = nil, 77, 9
-	if q := e.Proof(); len(q[0].Lits) == 0 || q[0].Hints[0] == 77 || q[1].Kind == 9 {
+	p[0].Lits[0], p[0].Hints[0], p[1].Kind = 77, 77, 9
+	if q := e.Proof(); q[0].Lits[0] == 77 || q[0].Hints[0] == 77 || q[1].Kind == 9 {
 		t.Error("an engine shares memory with what it told")
 	}
 }

@@ -31,12 +31,14 @@ func one() api.Object {
 }
 
 func TestSize(t *testing.T) {
+	bad := flag()
+	bad.Rows[4].Kind = 3
 	for i, x := range []struct {
 		o    api.Object
 		l    []api.Oper
 		want numbering.Size
 	}{
-		{flag(), nil, numbering.Size{Ops: 0, States: 2}}, {one(), []api.Oper{op(1, 0, 0, 1, 7)}, numbering.Size{Ops: 1, States: 1}}, {api.Object{}, nil, numbering.Size{}}, {one(), []api.Oper{{}}, numbering.Size{}}, {one(), []api.Oper{op(1, 60, 0, -1, -1)}, numbering.Size{Ops: 1, States: 1}},
+		{flag(), nil, numbering.Size{Ops: 0, States: 2}}, {one(), []api.Oper{op(1, 0, 0, 1, 7)}, numbering.Size{Ops: 1, States: 1}}, {api.Object{}, nil, numbering.Size{}}, {bad, nil, numbering.Size{}}, {one(), []api.Oper{{}}, numbering.Size{}}, {one(), []api.Oper{op(1, 60, 0, -1, -1)}, numbering.Size{Ops: 1, States: 1}},
 	} {
 		if got := moves.Size(x.o, x.l); got != x.want {
 			t.Errorf("%d: %v", i, got)

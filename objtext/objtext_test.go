@@ -75,7 +75,7 @@ var faults = []struct {
 	{"object 1000001 1 0 0", 7, api.ErrNum}, {"object 1 1 0 1000001", 13, api.ErrNum}, {"object -1 1 0 0", 7, api.ErrNum}, {"object 1 1 0 -1", 13, api.ErrNum},
 	{" object 0 1 0 0", 1, api.ErrArg}, {"object 33 1 0 0", 0, api.ErrArg}, {"object 1000000 1 0 0", 0, api.ErrArg}, {"object 1 65 0 0", 0, api.ErrArg}, {"object 1 1 1 0", 0, api.ErrArg},
 	{"object 1 1 0 1", 14, api.ErrShort}, {"object 1 1 0 1\n\n", 16, api.ErrShort}, {"object 0 1 0 1", 14, api.ErrShort}, {"object 0 1 0 1\nrow 0 0 0 0", 0, api.ErrArg},
-	{"object 1 1 0 1\nraw 0 0 0 0", 15, api.ErrWord}, {"object 1 1 0 1\n row 0 0 0", 25, api.ErrShort}, {"object 1 1 0 1\nrow 0 0 0 1000001", 25, api.ErrNum}, {"object 1 1 0 1\nrow 0 0 0 0 0", 27, api.ErrRest},
+	{"object 1 1 0 1\nraw 0 0 0 0", 15, api.ErrWord}, {"x\nobject 1 1 0 0", 0, api.ErrWord}, {"object 1 1 0 1\nx\nrow 0 0 0 7", 15, api.ErrWord}, {"object 1 1 0 1\n row 0 0 0", 25, api.ErrShort}, {"object 1 1 0 1\nrow 0 0 0 1000001", 25, api.ErrNum}, {"object 1 1 0 1\nrow 0 0 0 0 0", 27, api.ErrRest},
 	{"object 2 2 0 2\nrow 0 0 2 0\nrow 9", 32, api.ErrShort}, {"object 2 2 0 2\nrow 0 0 2 0\n row 9 0 0 0", 15, api.ErrState}, {"object 2 2 0 2\nrow 0 0 1 0\n row 1 2 0 0", 28, api.ErrKind},
 	{"object 2 2 0 2\nrow 0 1 1 0\n\n row 0 1 0 0", 29, api.ErrOrder}, {"object 2 2 0 2\nrow 0 1 1 0\nrow 0 0 0 0\n", 27, api.ErrOrder},
 	{"object 1 1 0 999999\nrow 0 0 0 0", 31, api.ErrShort},
@@ -95,8 +95,10 @@ func TestFaults(t *testing.T) {
 			t.Errorf("Take of %q: %v, %d, %d", x.s, o, at, e)
 		}
 	}
-	if _, at, e := objtext.Parse(two + "\nrow 1 2 3 4"); at != len(two)+1 || e != api.ErrRest {
-		t.Error(at, e)
+	for _, behind := range []string{"row 1 2 3 4", "x", "x\nx x"} {
+		if _, at, e := objtext.Parse(two + "\n" + behind); at != len(two)+1 || e != api.ErrRest {
+			t.Error(behind, at, e)
+		}
 	}
 	long := two + strings.Repeat(" ", api.MaxText-len(two))
 	if _, at, e := objtext.Parse(long); at != len(long) || e != api.OK {

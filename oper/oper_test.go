@@ -108,6 +108,12 @@ func TestPairsFreePending(t *testing.T) {
 	if got := oper.Free(odd, nil); !slices.Equal(got, []int{1}) {
 		t.Error(got)
 	}
+	if got := oper.Free([]api.Oper{op(1, 0, 0, 0, 0), op(2, 0, 1, 5, 0), op(3, 0, 5, 9, 0), op(4, 0, 6, 9, 0)}, nil); !slices.Equal(got, []int{0}) {
+		t.Error(got)
+	}
+	if got := oper.Free([]api.Oper{op(2, 0, 1, 5, 0), op(3, 0, 5, 9, 0), op(4, 0, 6, 9, 0)}, nil); !slices.Equal(got, []int{0, 1}) {
+		t.Error(got)
+	}
 	if got := oper.Pending(odd); !slices.Equal(got, []int{2}) || len(oper.Pending(nil)) > 0 || len(oper.Pairs(nil)) > 0 || len(oper.Free(nil, []bool{false})) > 0 {
 		t.Error(got)
 	}

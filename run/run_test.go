@@ -95,8 +95,10 @@ func TestBadObject(t *testing.T) {
 		if _, at, e := run.Picks(o, l, nil); at != -1 || e != api.ErrArg {
 			t.Errorf("%d: %d, %d", i, at, e)
 		}
-		if picks, e := run.Fill(o, l, []int{99}); len(picks) > 0 || e != api.ErrArg {
-			t.Errorf("%d: %v, %d", i, picks, e)
+		for _, order := range [][]int{nil, {0}, {99}} {
+			if picks, e := run.Fill(o, l, order); len(picks) > 0 || e != api.ErrArg {
+				t.Errorf("%d: %v, %d", i, picks, e)
+			}
 		}
 		if len(run.States(o, l, nil)) > 0 {
 			t.Errorf("%d: states", i)

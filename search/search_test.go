@@ -92,7 +92,9 @@ func TestNext(t *testing.T) {
 			t.Errorf("%d: %v", i, got)
 		}
 	}
-	if len(search.Next(api.Object{States: 2}, l, 0, nil)) > 0 || len(search.Next(o, nil, 0, nil)) > 0 {
+	bad := register()
+	bad.Init = 2
+	if len(search.Next(bad, l, 0, nil)) > 0 || len(search.Next(api.Object{States: 2}, l, 0, nil)) > 0 || len(search.Next(o, nil, 0, nil)) > 0 {
 		t.Error("of no object, or no operations")
 	}
 	odd := []api.Oper{op(1, 2, 0, -7, 1), op(1, 2, 0, -7, 0)}

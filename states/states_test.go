@@ -79,8 +79,10 @@ func TestRow(t *testing.T) {
 			t.Errorf("with %d: %v", v, row)
 		}
 	}
-	if _, ok := states.Row(size(0, 0), nil); ok {
-		t.Error("of a size that may not be")
+	for _, s := range []numbering.Size{size(0, 0), size(-1, 1), size(65, 1), size(1, 33)} {
+		if row, ok := states.Row(s, nil); ok || len(row) > 0 {
+			t.Error("of a size that may not be", s)
+		}
 	}
 }
 

@@ -44,7 +44,7 @@ var some = []struct {
 	m      []api.Step
 }{
 	{three(), []api.Step{add(4, []int{2}, 3), add(5, nil, 1, 2)}, true, []int{1, 2, 5}, []api.Step{add(5, nil, 1, 2)}, []int{1, 2}, formula(2, []int{1}, []int{-1}), []api.Step{add(3, nil, 1, 2)}},
-	{four(), []api.Step{add(6, []int{3, 1}, 3), add(9, []int{2}, 1, 2), del(0, 1, 3), add(12, nil, 9, 4, 5), add(13, []int{3}, 12)}, true, []int{1, 2, 4, 5, 9, 12}, []api.Step{add(9, []int{2}, 1, 2), add(12, nil, 9, 4, 5)}, []int{1, 2, 4, 5},
+	{four(), []api.Step{add(6, []int{3, 1}, 3), add(9, []int{2}, 1, 2), del(9, 1, 3), add(12, nil, 9, 4, 5), add(13, []int{3}, 12)}, true, []int{1, 2, 4, 5, 9, 12}, []api.Step{add(9, []int{2}, 1, 2), add(12, nil, 9, 4, 5)}, []int{1, 2, 4, 5},
 		formula(3, []int{1, 2}, []int{-1, 2}, []int{1, -2}, []int{-1, -2}), []api.Step{add(5, []int{2}, 1, 2), add(6, nil, 5, 3, 4)}},
 	{four(), []api.Step{add(6, []int{2}, 1, 2), add(7, nil, 6, 4, 5, 3, 3), add(8, nil, 7), del(0, 8)}, true, []int{1, 2, 3, 4, 5, 6, 7}, []api.Step{add(6, []int{2}, 1, 2), add(7, nil, 6, 4, 5, 3, 3)}, []int{1, 2, 3, 4, 5}, four(), []api.Step{add(6, []int{2}, 1, 2), add(7, nil, 6, 4, 5, 3, 3)}},
 	{formula(2, []int{1}, nil, []int{2}, nil), []api.Step{add(5, nil, 2), del(9, 1)}, true, []int{2}, nil, []int{2}, formula(2, nil), nil}, {formula(0, nil), nil, true, []int{1}, nil, []int{1}, formula(0, nil), nil},

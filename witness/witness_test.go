@@ -48,6 +48,7 @@ func TestParts(t *testing.T) {
 		{l, nil, -1, []int{0, 2}, []int{1, 3}}, {l, pick(0, 9, 2, 1), -1, nil, []int{1, 3}}, {l, pick(2, 1, 0, 9), 0, nil, []int{1, 3}}, {l, pick(1, 9, 0, 9, 2, 1, 3, 1), -1, nil, nil},
 		{l, pick(1, 9, 0, 9, 3, 1, 2, 1), 2, nil, nil}, {l, pick(0, 9, 3, 1), 1, []int{2}, []int{1}}, {l, pick(3, 0), 0, []int{0, 2}, []int{1}}, {l, pick(0, 5, 0, 5, 2, 5), -1, nil, []int{1, 3}},
 		{l, pick(4, 0, -1, 0, math.MinInt, 0, 1, 9), -1, []int{0, 2}, []int{3}}, {l, pick(99, 0, 2, 1), 1, []int{0}, []int{1, 3}}, {l, pick(2, 1, 3, 1), 0, []int{0}, []int{1}}, {nil, pick(0, 0), -1, nil, nil},
+		{[]api.Oper{op(1, 0, 0, 0, 0), op(2, 0, 1, 2, 0)}, pick(1, 0), 0, []int{0}, nil}, {[]api.Oper{op(1, 0, 0, 1, 0), op(2, 0, 1, 2, 0)}, pick(1, 0), -1, []int{0}, nil},
 		{odd, nil, -1, []int{0, 1}, []int{2}}, {odd, pick(0, 0), 0, []int{1}, []int{2}}, {odd, pick(2, 0, 1, 0), 1, []int{0}, nil},
 	} {
 		if got := witness.Order(x.l, x.picks); got != x.order {
