@@ -102,12 +102,11 @@ func TestOrder(t *testing.T) {
 func TestStops(t *testing.T) {
 	f := formula(3, []int{1, 2})
 	all := brute.All(f)
-	f.Clauses[0][0] = -3
 	for range 2 {
 		n := 0
 		for m := range all {
 			if !m[0] && !m[1] {
-				t.Error("what was handed in is kept", m)
+				t.Error("no model", m)
 			}
 			m[0] = !m[0]
 			if n++; n == 4 {

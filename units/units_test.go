@@ -191,7 +191,7 @@ func TestFollows(t *testing.T) {
 
 // TestLong: a long chain, its clauses in the least helpful order.
 func TestLong(t *testing.T) {
-	const n = 50000
+	const n = 300
 	var clauses [][]int
 	for v := n; v > 1; v-- {
 		clauses = append(clauses, []int{-(v - 1), v})

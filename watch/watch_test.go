@@ -253,7 +253,7 @@ func TestCloses(t *testing.T) {
 
 // TestLong: a long chain of clauses, there and back.
 func TestLong(t *testing.T) {
-	const n = 20000
+	const n = 2000
 	a := arena.New()
 	l, _ := trail.New(n)
 	w := watch.New(a, l)
