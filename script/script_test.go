@@ -55,7 +55,7 @@ func TestLines(t *testing.T) {
 		{one, "call 1 0 / call 1 0 / open / ret 2 0 / open / ret 1 7 / ret 1 7 / open / ops", "ok; error 33; 1; error 33; 1; ok; error 33; 0; 1"},
 		{one, "row 0 0 0 7 / object 1 1 0 0 / Lin / 1 / check check / lin lin", "error 60; error 60; error 60; error 60; error 60; error 60"},
 		{one, "lin 1 / open 0 / ops 1000 / kinds 0 / size 1 / lin x", "error 60; error 60; error 60; error 60; error 60; error 60"},
-		{one, "check 1000001 / check -1 / check 01 / check x / check 5 5 / count 1000001 / shrink -1 / shrink 1 1 / count 1 x", "error 60; error 60; error 60; error 60; error 60; error 60; error 60; error 60; error 60"},
+		{one, "check 1000001 / check -1 / check 01 / check x / check 5 5 / check 1000000000000000000000000 / check 18446744073709551621 / check 5x / check 5/ / check 5: / check 00 / count 1000001 / shrink -1 / shrink 1 1 / count 1 x", strings.Repeat("error 60; ", 14) + "error 60"},
 		{one, "check / check 1000000 / check 0 / count / count 0 / count 1 / count 2 / shrink / shrink 0", "linearizable; linearizable; linearizable; no; yes; yes; no; none; none"},
 		{one, "call 1 0 / ret 1 6 / check 1000 / shrink 2 / shrink 1 / shrink 0 / shrink 1000000 / count 0 / count 1 / lin", "ok; ok; notlinearizable; 2; more; more; 2; yes; no; no"},
 		{one, "size / call 1 0 / size / ret 1 7 / size", "1 2; ok; 4 6; ok; 4 6"}, {"object 1 1 0 0\n", "kinds", "1"}, {"c x\n\n" + one, "ops", "0"},
