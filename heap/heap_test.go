@@ -142,20 +142,28 @@ func TestTop(t *testing.T) {
 
 // TestTies: halving, also by a Bump, makes scores the same that were not; then the lesser number comes first.
 func TestTies(t *testing.T) {
-	for _, bump := range []bool{true, false} {
-		h, _ := heap.New(13)
-		for v := 2; v <= 13; v++ {
-			h.Bump(v, v)
+	const vars = 30
+	n := 1
+	for round := range 400 {
+		h, _ := heap.New(vars)
+		for v := 2; v <= vars; v++ {
+			n = (n*7919 + 13) % 100003
+			h.Bump(v, n%40)
 		}
-		if bump {
+		if round%2 == 0 {
 			h.Bump(1, heap.Top)
 			h.Bump(1, 1)
 		} else {
 			h.Bump(1, 100)
 			h.Halve()
 		}
-		if got := all(h); !slices.Equal(got, []int{1, 12, 13, 10, 11, 8, 9, 6, 7, 4, 5, 2, 3}) {
-			t.Error(bump, got)
+		var want []int
+		for v := range vars {
+			want = append(want, v+1)
+		}
+		slices.SortStableFunc(want, func(v, w int) int { return h.Score(w) - h.Score(v) })
+		if got := all(h); !slices.Equal(got, want) {
+			t.Fatal(round, got, want)
 		}
 	}
 }
